@@ -64,6 +64,11 @@ func (c committee) weight(members []int) int {
 	return sum
 }
 
+// isQuorum asks first whether members are a set, because only a set has a weight.
+func (c committee) isQuorum(members []int) bool {
+	return c.hasMembers(members) && c.weight(members) >= c.quorum()
+}
+
 // CommitteeValid reports whether c is a valid committee, a list of weights.
 func CommitteeValid(c []int) bool {
 	return committee(c).valid()
