@@ -476,24 +476,26 @@ func manyParts(g []impl.Vertex) [][]impl.Vertex {
 	return list
 }
 
-func isPrefix(a []int, b []int) bool {
+func isPrefix[T comparable](a []T, b []T) bool {
 	return len(a) <= len(b) && slices.Equal(a, b[:len(a)])
 }
 
-func TestPromise81PartsAgree(t *testing.T) {
+// expectAgreement expects that of what a function returns for two parts of a graph, one is a prefix of the other.
+func expectAgreement[T comparable](t *testing.T, list []led, function func(c []int, g []impl.Vertex, leaders []int) []T) {
+	t.Helper()
 	apart := 0
-	for _, x := range fewerLed() {
-		parts, lists := manyParts(x.g), [][]int{}
+	for _, x := range list {
+		parts, lists := manyParts(x.g), [][]T{}
 		for _, part := range parts {
 			if !impl.GraphValid(x.c, part) {
 				t.Fatalf("in %v, the part %v of %v is invalid", x.c, part, x.g)
 			}
-			lists = append(lists, impl.CommitWaves(x.c, part, x.leaders))
+			lists = append(lists, function(x.c, part, x.leaders))
 		}
 		for i, a := range lists {
 			for j, b := range lists[:i] {
 				if !isPrefix(a, b) && !isPrefix(b, a) {
-					t.Fatalf("in %v with the leaders %v, %v commits %v, and %v commits %v", x.c, x.leaders, parts[i], a, parts[j], b)
+					t.Fatalf("in %v with the leaders %v, %v gives %v, and %v gives %v", x.c, x.leaders, parts[i], a, parts[j], b)
 				}
 				if len(a) != len(b) {
 					apart++
@@ -502,8 +504,12 @@ func TestPromise81PartsAgree(t *testing.T) {
 		}
 	}
 	if apart == 0 {
-		t.Error("all parts commit the same waves")
+		t.Error("all parts give the same")
 	}
+}
+
+func TestPromise81PartsAgree(t *testing.T) {
+	expectAgreement(t, fewerLed(), impl.CommitWaves)
 }
 
 func TestPromise82PartsCommitAPrefix(t *testing.T) {
@@ -847,25 +853,29 @@ func TestInvalidWaves(t *testing.T) {
 	}
 }
 
-func TestInvalidLeaders(t *testing.T) {
+// invalidlyLed has valid graphs with lists that are not leaders of their waves.
+func invalidlyLed() []led {
+	list := []led{}
 	for _, c := range fewCommittees() {
 		for _, g := range [][]impl.Vertex{nil, fullGraph(c, 3), fullGraph(c, 7)} {
 			for _, many := range []int{1, 2, 3, impl.MaxWave} {
 				for _, i := range []int{0, many / 2, many - 1} {
 					for _, n := range notMembers(c) {
-						expectNoWaves(t, led{c, g, replaced(scatteredLeaders(c, many, i), i, n)})
+						list = append(list, led{c, g, replaced(scatteredLeaders(c, many, i), i, n)})
 					}
 				}
 			}
 			for _, many := range []int{16, 17, 30, 31, 32, 1000} {
-				expectNoWaves(t, led{c, g, make([]int, many)})
-				expectNoWaves(t, led{c, g, scatteredLeaders(c, many, many)})
+				list = append(list, led{c, g, make([]int, many)}, led{c, g, scatteredLeaders(c, many, many)})
 			}
 		}
 	}
+	return list
 }
 
-func TestWavesOfInvalidGraphs(t *testing.T) {
+// ledInvalidGraphs has graphs that are invalid, with valid and invalid leaders.
+func ledInvalidGraphs() []led {
+	list := []led{}
 	for _, c := range [][]int{{1}, {1, 2, 3}, {1, 1, 1, 1}, {9, 5, 3, 1}} {
 		graphs := invalidGraphs(c)
 		for _, v := range invalidVertices(c) {
@@ -873,14 +883,16 @@ func TestWavesOfInvalidGraphs(t *testing.T) {
 		}
 		for _, g := range graphs {
 			for _, leaders := range [][]int{nil, {0}, scatteredLeaders(c, 3, 1), {-1}, make([]int, 16)} {
-				expectNoWaves(t, led{c, g, leaders})
+				list = append(list, led{c, g, leaders})
 			}
 		}
 	}
+	return list
 }
 
-// The lists would be graphs of a committee with as many members.
-func TestWavesOfInvalidCommittees(t *testing.T) {
+// ledByInvalidCommittees has lists that would be graphs of a committee with as many members.
+func ledByInvalidCommittees() []led {
+	list := []led{}
 	for _, c := range invalidCommittees() {
 		all := []int{}
 		for member := range c {
@@ -888,9 +900,28 @@ func TestWavesOfInvalidCommittees(t *testing.T) {
 		}
 		for _, g := range [][]impl.Vertex{nil, {}, {vertexOf(0, 0, 5)}, evenGraph(all, 3)[:min(3*len(c), 24)]} {
 			for _, leaders := range [][]int{nil, {}, {0}, {0, 0}, {max(0, len(c)-1)}, {-1}, make([]int, 16)} {
-				expectNoWaves(t, led{c, g, leaders})
+				list = append(list, led{c, g, leaders})
 			}
 		}
+	}
+	return list
+}
+
+func TestInvalidLeaders(t *testing.T) {
+	for _, x := range invalidlyLed() {
+		expectNoWaves(t, x)
+	}
+}
+
+func TestWavesOfInvalidGraphs(t *testing.T) {
+	for _, x := range ledInvalidGraphs() {
+		expectNoWaves(t, x)
+	}
+}
+
+func TestWavesOfInvalidCommittees(t *testing.T) {
+	for _, x := range ledByInvalidCommittees() {
+		expectNoWaves(t, x)
 	}
 }
 
