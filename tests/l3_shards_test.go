@@ -199,18 +199,18 @@ func choices(list []impl.Shard, some int) [][]impl.Shard {
 }
 
 // reversed returns a list in reverse order.
-func reversed(list []impl.Shard) []impl.Shard {
+func reversed[T any](list []T) []T {
 	list = slices.Clone(list)
 	slices.Reverse(list)
 	return list
 }
 
 // orders returns a list in all orders.
-func orders(list []impl.Shard) [][]impl.Shard {
+func orders[T any](list []T) [][]T {
 	if len(list) == 0 {
-		return [][]impl.Shard{{}}
+		return [][]T{{}}
 	}
-	all := [][]impl.Shard{}
+	all := [][]T{}
 	for i := range list {
 		for _, rest := range orders(slices.Delete(slices.Clone(list), i, i+1)) {
 			all = append(all, append(rest, list[i]))
